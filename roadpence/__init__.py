@@ -1,0 +1,1 @@
+"""Roadpence: what travellers spent, told and paid back."""

@@ -1,0 +1,60 @@
+"""Things of whatever kind, for the tests to hand in where another kind is asked for."""
+
+from roadpence.errors import NoRates
+from roadpence.spendings import Spending
+
+THIRTY_FIGURES = 10 ** 30 - 1
+
+
+def deep_list(depth):
+    """Tell a list within lists, so many deep."""
+    thing = []
+    for _ in range(depth - 1):
+        thing = [thing]
+    return thing
+
+
+def truths():
+    return [True, False]
+
+
+def far_numbers():
+    """Tell numbers that are beyond every bound."""
+    return [THIRTY_FIGURES, -THIRTY_FIGURES]
+
+
+def texts():
+    """Tell texts that are no kind."""
+    return ["", "x", "0", "1", "True", "None", "\n\t", "Meal", "MEAL", "meals", " meal", "meal ", "mea", "x" * 2000]
+
+
+def lists():
+    return [[], [1], [True], ["meal"], [None, [1, (2,)]], deep_list(80)]
+
+
+def tuples():
+    return [(), (1,), (True,), ("meal",), (1, 0, 1, 1), ((1, 0, 1, 1),)]
+
+
+def dicts():
+    return [{}, {1: 1}, {"meal": "meal"}, {0: [1], "x": (2,)}]
+
+
+def objects():
+    """Tell objects of the package."""
+    return [Spending("meal", 1), NoRates("none")]
+
+
+def no_numbers():
+    """Tell a thing of each kind but a number."""
+    return [None, "meal", *truths(), *texts(), *lists(), *tuples(), *dicts(), *objects()]
+
+
+def no_truths():
+    """Tell a thing of each kind but a truth."""
+    return [None, 0, 1, "meal", *far_numbers(), *texts(), *lists(), *tuples(), *dicts(), *objects()]
+
+
+def no_kinds():
+    """Tell a thing of each kind but a kind of spending."""
+    return [None, 0, 1, *far_numbers(), *truths(), *texts(), *lists(), *tuples(), *dicts(), *objects()]
