@@ -103,7 +103,8 @@ class NoName(KeyError):
     """The book has no rule of the name."""
 
     def __init__(self, name):
-        KeyError.__init__(self, f"no rule is called {name}")
+        # The name may be a thing of whatever kind, too deep to be written into a text.
+        KeyError.__init__(self, "the book has no rule of this name")
         self.name = name
 
 

@@ -1,8 +1,10 @@
 """Whether a thing of whatever kind is what is asked for."""
 
 KINDS = ("bed", "fee", "meal", "ride", "sundry")
+LAST_TOWN = 3
 LAST_DAY = 59
 LAST_MONEY = 3
+MOST_SHARE = 1000000000000
 
 
 def is_whole(thing, least, most):
@@ -21,6 +23,16 @@ def is_kind(thing):
     return thing in KINDS
 
 
+def is_town(thing):
+    """Tell whether a thing is a town."""
+    return is_whole(thing, 0, LAST_TOWN)
+
+
 def is_day(thing):
     """Tell whether a thing is a day."""
     return is_whole(thing, 0, LAST_DAY)
+
+
+def is_share(thing):
+    """Tell whether a thing is a share."""
+    return is_whole(thing, 0, MOST_SHARE)

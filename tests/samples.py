@@ -1,6 +1,8 @@
 """Things of whatever kind, for the tests to hand in where another kind is asked for."""
 
+from roadpence.books import Rulebook
 from roadpence.errors import NoRates
+from roadpence.rules import Rule
 from roadpence.spendings import Spending
 
 THIRTY_FIGURES = 10 ** 30 - 1
@@ -42,7 +44,7 @@ def dicts():
 
 def objects():
     """Tell objects of the package."""
-    return [Spending("meal", 1), NoRates("none")]
+    return [Spending("meal", 1), Rule("eats"), Rulebook(), Rulebook([Rule("eats")]), NoRates("none")]
 
 
 def no_numbers():

@@ -6,6 +6,7 @@ import unittest
 from roadpence import spendings
 from roadpence.errors import NoHeads, NoSpending, PenceError
 from roadpence.spendings import Spending, are_twins
+from tests.likeness import LikenessTest
 from tests.samples import far_numbers, no_kinds, no_numbers, no_truths
 
 PARTS = ("kind", "amount", "day", "paper", "heads", "money")
@@ -181,20 +182,8 @@ class Refusing(SpendingTest):
             self.assert_no_heads(Spending, "meal", 1250, 0, True, 0)
 
 
-class Equality(unittest.TestCase):
+class Equality(LikenessTest):
     """Point 11, == and !=."""
-
-    def assert_alike(self, one, other):
-        self.assertTrue(one == other)
-        self.assertTrue(other == one)
-        self.assertFalse(one != other)
-        self.assertFalse(other != one)
-
-    def assert_unlike(self, one, other):
-        self.assertFalse(one == other)
-        self.assertFalse(other == one)
-        self.assertTrue(one != other)
-        self.assertTrue(other != one)
 
     def test_alike(self):
         self.assert_alike(Spending("meal", 1250), Spending("meal", 1250, 0, True, 1, 0))
