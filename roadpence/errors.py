@@ -95,7 +95,8 @@ class NoDay(IndexError):
     """The journey hasn't the day."""
 
     def __init__(self, day):
-        IndexError.__init__(self, f"the journey hasn't the day {day}")
+        # The day may be a thing of whatever kind, too deep to be written into a text.
+        IndexError.__init__(self, "the journey hasn't this day")
         self.day = day
 
 

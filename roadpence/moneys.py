@@ -36,6 +36,13 @@ def check_rates(rates):
         raise NoRates("rates are a rising tuple of at most twelve tuples (money, day, top, bottom)")
 
 
+def told_rates(rates):
+    """Tell the rates that are handed in, None standing for none at all."""
+    told = () if rates is None else rates
+    check_rates(told)
+    return told
+
+
 def rate_on(rates, money, day):
     """Tell the rate of a money on a day, as a tuple (top, bottom)."""
     check_rates(rates)
@@ -52,7 +59,7 @@ def rate_on(rates, money, day):
 
 def share_of(spending, rates=None):
     """Tell the share of a spending in whole pennies, half a penny up."""
-    top, bottom = rate_on(() if rates is None else rates, spending.money, spending.day)
+    top, bottom = rate_on(told_rates(rates), spending.money, spending.day)
     whole = spending.amount * top
     parts = bottom * spending.heads
     # To round at each step could tell another penny, so there is one division.

@@ -1,7 +1,11 @@
-"""What DOC.md says of rules, books and trees, told anew by going through spots one by one.
+"""What DOC.md says of moneys, rules, books, trees and journeys, told anew by going through all one by one.
 
-Nothing of the program is used here but the values of rules, so that both can be held against each other.
+Nothing of the program is used here but the values of spendings and rules, so that both can be held against each
+other.
 """
+
+from fractions import Fraction
+from math import floor
 
 KINDS = ("bed", "fee", "meal", "ride", "sundry")
 TOWNS = (0, 1, 2, 3)
@@ -9,6 +13,20 @@ PAPERS = (False, True)
 DAYS = tuple(range(60))
 MOST = 10 ** 12
 DEEDS = {"let": 0, "cut": MOST, "each": 1000, "hundredths": 100, "refuse": 0}
+
+
+def rate(rates, money, day):
+    """Point 20: the rate, or None."""
+    if money == 0:
+        return (1, 1)
+    rows = [row for row in rates if row[0] == money and row[1] <= day]
+    return max(rows)[2:] if rows else None
+
+
+def share(spending, rates):
+    """Point 21."""
+    top, bottom = rate(rates, spending.money, spending.day)
+    return floor(Fraction(spending.amount * top, bottom * spending.heads) + Fraction(1, 2))
 
 
 def pays(rule, share):
@@ -183,3 +201,51 @@ def telling_spots(rules, trees):
     days = sorted(day for day in days if 0 <= day <= 59)
     shares = sorted(share for share in shares if 0 <= share <= MOST)
     return [(*column, share) for column in columns(days) for share in shares]
+
+
+def lines(spendings):
+    """Point 62: from the last thing that they rise by to the first one."""
+    told = sorted(spendings, key=lambda spending: 0 if spending.paper else 1)
+    for part in ("heads", "money", "amount", "kind", "day"):
+        told = sorted(told, key=lambda spending: getattr(spending, part))
+    return told
+
+
+def twin_values(spending):
+    """Point 12."""
+    return (spending.kind, spending.amount, spending.day, spending.money)
+
+
+def twins(spendings):
+    """Point 62."""
+    told = [twin_values(line) for line in lines(spendings)]
+    return [at for at in range(len(told)) if told[at] in told[:at]]
+
+
+def verdicts(towns, spendings, rules, rates):
+    """Point 71, as tuples (line, share, paid, name)."""
+    told = []
+    for at, line in enumerate(lines(spendings)):
+        worth = share(line, rates)
+        spot = (line.kind, towns[line.day], line.paper, line.day, worth)
+        place = place_met(rules, spot)
+        if at in twins(spendings):
+            told.append((line, worth, 0, "twin"))
+        elif place is None:
+            told.append((line, worth, 0, None))
+        else:
+            told.append((line, worth, pays(rules[place], worth), rules[place].name))
+    return told
+
+
+def days_pay(towns, begun, ended, table):
+    """Point 72."""
+    total = 0
+    for day, town in enumerate(towns):
+        tenths = 10
+        if day == 0:
+            tenths = min(tenths, begun)
+        if day == len(towns) - 1:
+            tenths = min(tenths, ended)
+        total += floor(Fraction(table[town] * tenths, 10))
+    return total

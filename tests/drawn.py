@@ -1,7 +1,8 @@
-"""Rules and books drawn by chance, the same ones each time, from ends that often fall together."""
+"""Rules, books, rates and spendings drawn by chance, the same ones each time, from ends that often fall together."""
 
 from roadpence.books import Rulebook
 from roadpence.rules import Rule
+from roadpence.spendings import Spending
 from tests.by_hand import KINDS, MOST
 
 NAMES = ("a", "b", "c", "d", "e", "f", "g", "h")
@@ -65,3 +66,29 @@ def but(rule, **parts):
     """Tell the rule that is alike but for some parts."""
     names = ("name", "deed", "bound", "kind", "town", "first", "last", "over", "paper")
     return Rule(**{**{name: getattr(rule, name) for name in names}, **parts})
+
+
+def drawn_towns(chance, most=30):
+    return tuple(chance.randrange(4) for _ in range(chance.randint(1, most)))
+
+
+def drawn_rates(chance):
+    """Tell rates that each money has from the day 0 on, and from later days otherwise."""
+    days = [(money, day) for money in (1, 2, 3) for day in (0, *sorted(chance.sample(range(1, 60), 3)))]
+    return tuple((*row, chance.randint(1, 9), chance.choice((1, 2, 3, 7))) for row in days)
+
+
+def drawn_spending(chance, days, moneys=4):
+    """Tell a spending on one of so many days; few amounts and kinds, so twins are often drawn."""
+    return Spending(
+        chance.choice(KINDS[1:4]),
+        chance.choice((1, 2, 5, 49, 50, 101, 10 ** 6)),
+        chance.randrange(days),
+        chance.choice((True, False)),
+        chance.choice((1, 1, 2, 3, 6)),
+        chance.randrange(moneys),
+    )
+
+
+def drawn_spendings(chance, days, most=40, moneys=4):
+    return [drawn_spending(chance, days, moneys) for _ in range(chance.randint(0, most))]

@@ -1,8 +1,11 @@
 """Things of whatever kind, for the tests to hand in where another kind is asked for."""
 
 from roadpence.books import Rulebook
+from roadpence.desk import Desk
 from roadpence.errors import NoRates
+from roadpence.journeys import Journey
 from roadpence.rules import Rule
+from roadpence.settling import Verdict
 from roadpence.spendings import Spending
 
 THIRTY_FIGURES = 10 ** 30 - 1
@@ -44,7 +47,8 @@ def dicts():
 
 def objects():
     """Tell objects of the package."""
-    return [Spending("meal", 1), Rule("eats"), Rulebook(), Rulebook([Rule("eats")]), NoRates("none")]
+    told = [Spending("meal", 1), Rule("eats"), Rulebook(), Rulebook([Rule("eats")]), NoRates("none")]
+    return [*told, Journey((0,)), Verdict(Spending("meal", 1), 1, 1, "eats"), Desk()]
 
 
 def no_numbers():
@@ -57,6 +61,16 @@ def no_truths():
     return [None, 0, 1, "meal", *far_numbers(), *texts(), *lists(), *tuples(), *dicts(), *objects()]
 
 
+def no_texts():
+    """Tell a thing of each kind but a text."""
+    return [None, 0, 1, *far_numbers(), *truths(), *lists(), *tuples(), *dicts(), *objects()]
+
+
 def no_kinds():
     """Tell a thing of each kind but a kind of spending."""
-    return [None, 0, 1, *far_numbers(), *truths(), *texts(), *lists(), *tuples(), *dicts(), *objects()]
+    return [*no_texts(), *texts()]
+
+
+def whatever():
+    """Tell a thing of each kind."""
+    return ["meal", *no_kinds()]

@@ -2,13 +2,12 @@ import copy
 import inspect
 import itertools
 import unittest
-from fractions import Fraction
-from math import floor
 
 from roadpence import moneys
 from roadpence.errors import NoRate, NoRates, PenceError
 from roadpence.moneys import rate_on, share_of
 from roadpence.spendings import Spending
+from tests import by_hand
 from tests.samples import deep_list, far_numbers, no_numbers, objects
 
 SIDE = 10 ** 6
@@ -16,19 +15,6 @@ RATES = ((1, 0, 3, 2), (1, 10, 5, 4), (1, 11, 7, 8), (2, 5, 1, 3), (3, 59, 9, 1)
 TWELVE = tuple((money, day, money + day, 10 * money + day) for money in (1, 2, 3) for day in (0, 20, 40, 59))
 # Nothing is wrong with these but how many they are.
 THIRTEEN = tuple((1, day, 1, 1) for day in range(13))
-
-
-def rate_by_hand(rates, money, day):
-    """Tell the rate, or None, another way than the program does."""
-    if money == 0:
-        return (1, 1)
-    rows = [row for row in rates if row[0] == money and row[1] <= day]
-    return max(rows)[2:] if rows else None
-
-
-def share_by_hand(spending, top, bottom):
-    """Tell the share another way than the program does."""
-    return floor(Fraction(spending.amount * top, bottom * spending.heads) + Fraction(1, 2))
 
 
 def no_tuples():
@@ -117,7 +103,7 @@ class Rate(MoneyTest):
         for many in range(13):
             for rates in (TWELVE[:many], TWELVE[12 - many:]):
                 for money, day in itertools.product(range(4), range(60)):
-                    rate = rate_by_hand(rates, money, day)
+                    rate = by_hand.rate(rates, money, day)
                     if rate is None:
                         self.assert_no_rate(money, day, rate_on, rates, money, day)
                     else:
@@ -292,7 +278,8 @@ class Share(MoneyTest):
         for top, bottom in itertools.product(sides, sides):
             for amount, heads in itertools.product((1, 2, 3, 5, 8, 35, 999, 499999, 500000, SIDE), range(1, 7)):
                 spending = Spending("ride", amount, 7, heads=heads, money=2)
-                self.assert_share(share_by_hand(spending, top, bottom), spending, ((2, 7, top, bottom),))
+                rates = ((2, 7, top, bottom),)
+                self.assert_share(by_hand.share(spending, rates), spending, rates)
 
     def test_kind_and_paper_play_no_part(self):
         for kind in ("bed", "fee", "meal", "ride", "sundry"):
